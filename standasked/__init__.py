@@ -1,0 +1,1 @@
+"""Standasked: threads that are asked to stand."""
