@@ -1,6 +1,6 @@
 """Programs, starts, and the askings of a program."""
 
-from standasked.errors import NoKept, NoProgram, NoStarts
+from standasked.errors import NoKept, NoProgram, NoStarts, NoThread
 from standasked.values import is_between, is_number, is_row
 
 MOST_LOCKS = 3
@@ -87,6 +87,11 @@ def check_starts(program, starts):
     for function in starts:
         if not is_between(function, 0, len(program[2]) - 1):
             raise NoStarts("each of the starts is the number of a function")
+
+
+def check_thread(starts, thread):
+    if not is_between(thread, 0, len(starts) - 1):
+        raise NoThread("there is no such thread")
 
 
 def instruction_at(program, function, place):

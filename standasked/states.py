@@ -222,28 +222,58 @@ def steps(program, starts, state):
     return steps_from(program, state)
 
 
-def add_next_states(program, found, layer):
-    """Put what is one move from a layer into found, and return what is new."""
-    fresh = []
-    for state in layer:
-        for step in steps_from(program, state):
-            after = step[2]
-            if after not in found:
-                found[after] = found[state] + 1
-                fresh.append(after)
-        if len(found) > MOST_STATES:
+class Runs:
+    """All states that some schedule leads to, by their numbers: 0 is the first
+    state, and no number is smaller than that of a state with fewer moves."""
+
+    def __init__(self, first):
+        self.states = [first]
+        self.numbers = {first: 0}
+        # For each state the list of (move, weight, number of the state after it).
+        self.steps = []
+        # For each state the last (number of the state before it, move) of a
+        # schedule with the fewest moves.
+        self.ways = [None]
+
+
+def explored(program, starts):
+    runs = Runs(starting_state(program, starts))
+    while len(runs.steps) < len(runs.states):
+        add_steps(program, runs, len(runs.steps))
+        if len(runs.states) > MOST_STATES:
             raise TooMany("there are more than 2000 states")
-    return fresh
+    return runs
+
+
+def add_steps(program, runs, at):
+    """Put the steps from a state into runs, and the states that are new there."""
+    found = steps_from(program, runs.states[at])
+    numbered = []
+    for move, weight, after in found:
+        if after not in runs.numbers:
+            runs.numbers[after] = len(runs.states)
+            runs.states.append(after)
+            runs.ways.append((at, move))
+        numbered.append((move, weight, runs.numbers[after]))
+    runs.steps.append(numbered)
+
+
+def way_to(runs, at):
+    """A schedule with the fewest moves to a state."""
+    moves = []
+    while runs.ways[at] is not None:
+        at, move = runs.ways[at]
+        moves.append(move)
+    return moves[::-1]
 
 
 def all_states(program, starts):
     check_program(program)
     check_starts(program, starts)
-    first = starting_state(program, starts)
-    found = {first: 0}
-    layer = [first]
-    while layer:
-        layer = add_next_states(program, found, layer)
+    runs = explored(program, starts)
+    found = {}
+    for state, way in zip(runs.states, runs.ways):
+        found[state] = 0 if way is None else found[runs.states[way[0]]] + 1
     return found
 
 

@@ -77,3 +77,86 @@ def generated_runs(many):
         starts = tuple([source.randint(0, 2) for _ in range(source.randint(1, 3))])
         runs.append((program, starts))
     return runs
+
+
+def calm_function(source, at):
+    """Instructions without a way back, in which each stop has its "go"."""
+    pieces = [
+        [("work", source.randint(1, 99))], [("ask",)], [("ask",), ("work", 2)], [("branch", None)],
+        [("leave",), ("work", source.randint(1, 9))], [("take", 0), ("free", 0)],
+        [("take", 0), ("work", 3), ("free", 0)], [("safe take", 1), ("free", 1)],
+        [("raise", 0)], [("if", 0, None)],
+        [("stop",), ("work", source.randint(1, 9)), ("go",)], [("stop",), ("go",)], [("stop",), ("go",)],
+    ]
+    if at < 2:
+        pieces.append([("call", source.randint(at + 1, 2))])
+    chosen = source.choice(pieces) + source.choice(pieces) + source.choice(pieces[:-1])
+    return tuple([one if one[-1] is not None else one[:-1] + (source.randint(place + 1, len(chosen)),)
+                  for place, one in enumerate(chosen)])
+
+
+def calm_runs(many):
+    """Programs most of whose stops hold and end, the same ones at each call."""
+    source = random.Random(7)
+    runs = []
+    for _ in range(many):
+        program = (2, 1, tuple([calm_function(source, at) for at in range(3)]))
+        assert is_program(program)
+        starts = tuple([source.randint(0, 2) for _ in range(source.randint(1, 3))])
+        runs.append((program, starts))
+    return runs
+
+
+def mixed_runs(many):
+    """The programs of calm_runs with some instructions put in by chance: with
+    stuck states and rings among them."""
+    source = random.Random(11)
+    runs = []
+    for program, starts in calm_runs(many):
+        functions = [list(function) for function in program[2]]
+        for _ in range(source.randint(1, 2)):
+            at = source.randint(0, 2)
+            place = source.randint(0, len(functions[at]) - 1)
+            functions[at][place] = source.choice([
+                generated_instruction(source, at, len(functions[at])),
+                (source.choice(["branch", "jump"]), source.randint(0, place))])
+        program = (2, 1, tuple([tuple(function) for function in functions]))
+        assert is_program(program)
+        runs.append((program, starts))
+    return runs
+
+
+def long_run(*last):
+    """One thread with a stop, an "ask" and 2000 states, each instruction of last one more."""
+    return functions_of((("stop",), ("go",)) + (("call", 1),) * 5 + (("ask",),) + last,
+                        (("call", 2),) * 9 + works(1), (("call", 3),) * 6, works(5))
+
+
+STATES_2000 = (long_run(), (0,))
+STATES_2001 = (long_run(("work", 1)), (0,))
+
+
+def growing_run(before, behind):
+    """Four threads, whose states are more with the "ask" than without it."""
+    return functions_of(works(3) + (("stop",), ("go",)) + works(2),
+                        works(before) + (("ask",),) + works(behind), works(4), works(4)), (0, 1, 2, 3)
+
+
+# 1984 states without the "ask" each, and 2000 or 2008 with it.
+UP_TO_2000 = growing_run(6, 2)
+UP_TO_2008 = growing_run(4, 4)
+
+
+def lock_runs(many):
+    """Programs of threads that take locks in any order, the same ones at each call."""
+    source = random.Random(3)
+    runs = []
+    for _ in range(many):
+        functions = [(("work", 2), ("stop",), ("go",))]
+        for _ in range(3):
+            locks = source.sample(range(3), 2)
+            functions.append(tuple([(source.choice(["take"] * 5 + ["safe take"]), lock) for lock in locks]
+                                   + [source.choice([("ask",), ("work", 1), ("leave",)])]
+                                   + [("free", lock) for lock in locks]))
+        runs.append(((3, 0, tuple(functions)), (0,) + source.choice([(1, 2), (1, 3), (1, 2, 3)])))
+    return runs

@@ -1,12 +1,19 @@
 """The errors of the interface, and which one is raised."""
 
+import itertools
 import unittest
 
 from standasked import errors
-from standasked.errors import NoKept, NoProgram, NoStarts, NoState, StandError, TooMany
+from standasked.askings import cheapest, may_go
+from standasked.errors import (NoKept, NoMove, NoNumber, NoPlace, NoPrices, NoProgram, NoStarts,
+                               NoState, NoThread, StandError, TooMany)
+from standasked.machines import Machine
 from standasked.programs import askings, without
+from standasked.standing import chain, stand_schedule, standing, waits_for
 from standasked.states import all_states, are_all_states, first_state, steps
-from tests.samples import NO_PROGRAMS, PAIR, functions_of, works
+from standasked.stops import judge, lates, rests, share_schedule, shares, shows_rests
+from tests.samples import (NO_NUMBERS, NO_PROGRAMS, PAIR, STATES_2000, STATES_2001, UP_TO_2000,
+                           functions_of, works)
 
 NAMES = ["NoProgram", "NoStarts", "NoState", "NoKept", "NoPrices", "NoNumber",
          "NoThread", "NoPlace", "NoMove", "TooMany"]
@@ -73,3 +80,144 @@ class EarliestErrorTest(unittest.TestCase):
     def test_too_many_is_no_matter_of_one_step(self):
         state = first_state(HUGE, HUGE_STARTS)
         self.assertEqual(len(steps(HUGE, HUGE_STARTS, state)), 4)
+
+
+# A state of PAIR that no run leads to: the thread whose stop is requested is done.
+STUCK = (((), ((1, 1),)), (0, 0), (), (), 0)
+
+PROGRAMS = (NoProgram, PAIR, NO_PROGRAMS)
+STARTS = (NoStarts, (0, 1), [None, True, 0, [0, 1], (), (2,), (0, True), (0, -1), (0,) * 5, {0: 1}, "01"])
+STATES = (NoState, first_state(PAIR, (0, 1)), NO_NUMBERS + [[], list(STUCK), STUCK[:4] + (True,)])
+THREADS = (NoThread, 1, NO_NUMBERS + [2, 65535])
+LIMITS = (NoNumber, 9, NO_NUMBERS)
+PRICES = (NoPrices, {(1, 1): 1}, NO_NUMBERS + [[1], {(1, 1): True}, {(1, 1): -1}, {(1, 1): 65536},
+                                               {(1, 1): None}, {(1, 0): 1}, {(1, 1): 1, (0, 0): 1}])
+# Function, place and locks are one argument.
+STANDING_PLACES = (NoPlace, (1, 1, ()), [
+    (True, 1, ()), (None, 1, ()), (2, 1, ()), (-1, 0, ()), (1, True, ()), (1, 3, ()), (1, -1, ()),
+    (1, "1", ()), (1, 1, []), (1, 1, None), (1, 1, (0,)), (1, 1, (False,)), (1, 1, "0"), (1, None, None)])
+
+# For each function its arguments: the error, a good value, and wrong ones.
+ARGUMENTS = [
+    (judge, [PROGRAMS, STARTS]), (rests, [PROGRAMS, STARTS]), (lates, [PROGRAMS, STARTS]),
+    (shares, [PROGRAMS, STARTS]), (shows_rests, [PROGRAMS, STARTS, (None, {}, [])]),
+    (share_schedule, [PROGRAMS, STARTS, THREADS]), (may_go, [PROGRAMS, STARTS, LIMITS]),
+    (cheapest, [PROGRAMS, STARTS, PRICES, LIMITS]), (standing, [PROGRAMS, STARTS]),
+    (stand_schedule, [PROGRAMS, STARTS, THREADS, STANDING_PLACES]),
+    (waits_for, [PROGRAMS, STARTS, STATES]), (chain, [PROGRAMS, STARTS, STATES]),
+    (Machine, [PROGRAMS, STARTS]),
+]
+
+
+def called(function, values):
+    """What a call returns, the last of four arguments being three for stand_schedule."""
+    if function == stand_schedule:
+        values = list(values[:3]) + list(values[3])
+    return function(*values)
+
+
+class ArgumentsTest(unittest.TestCase):
+    def assert_raises_just(self, wanted, function, values):
+        with self.assertRaises(StandError) as caught:
+            called(function, values)
+        self.assertIs(type(caught.exception), wanted, (function, values))
+
+    def test_good_values(self):
+        for function, arguments in ARGUMENTS:
+            values = [good for _, good, _ in arguments]
+            if function == chain:
+                self.assert_raises_just(NoState, chain, values)
+                values[2] = STUCK
+            called(function, values)
+
+    def test_each_wrong_value_of_each_argument(self):
+        for function, arguments in ARGUMENTS:
+            for at, (error, _, wrongs) in enumerate(arguments):
+                for wrong in wrongs:
+                    values = [good for _, good, _ in arguments]
+                    values[at] = wrong
+                    self.assert_raises_just(error, function, values)
+
+    def test_of_several_errors_the_one_of_the_earliest_argument(self):
+        for function, arguments in ARGUMENTS:
+            checked = [at for at, one in enumerate(arguments) if one[0] is not None]
+            for first, second in itertools.combinations(checked, 2):
+                for wrong in arguments[first][2]:
+                    # The first wrong value with all of the second, and with all behind.
+                    for other in arguments[second][2][:4]:
+                        values = [good for _, good, _ in arguments]
+                        values[first] = wrong
+                        values[second] = other
+                        self.assert_raises_just(arguments[first][0], function, values)
+                    values = [one[1] if at < first else one[2][0] if one[2] else None
+                              for at, one in enumerate(arguments)]
+                    values[first] = wrong
+                    self.assert_raises_just(arguments[first][0], function, values)
+
+
+class TooManyTest(unittest.TestCase):
+    """2000 states and one more, and TooMany behind all other errors."""
+
+    def calls(self, program, starts):
+        return [(judge, ()), (rests, ()), (lates, ()), (shares, ()), (shows_rests, (None,)),
+                (shows_rests, ({},)), (share_schedule, (0,)), (standing, ()),
+                (stand_schedule, (0, 0, 0, ()))]
+
+    def test_2000_states(self):
+        for program, starts in (STATES_2000, UP_TO_2000):
+            self.assertEqual(len(all_states(program, starts)), 2000)
+            for function, more in self.calls(program, starts):
+                function(program, starts, *more)
+        self.assertEqual(judge(*STATES_2000)[:2], ("late", 0))
+        self.assertEqual(lates(*STATES_2000), {(0, 0): (0, 1)})
+        self.assertIs(shows_rests(*STATES_2000, rests(*STATES_2000)), True)
+        self.assertIs(shows_rests(*UP_TO_2000, rests(*UP_TO_2000)), True)
+
+    def test_one_more_and_many_more(self):
+        for program, starts in (STATES_2001, (HUGE, HUGE_STARTS)):
+            for function, more in self.calls(program, starts):
+                with self.assertRaises(TooMany):
+                    function(program, starts, *more)
+
+    def test_behind_all_other_errors(self):
+        for starts in ((), (0, 0, 0, 1)):
+            for function, more in self.calls(HUGE, starts):
+                with self.assertRaises(NoStarts):
+                    function(HUGE, starts, *more)
+        program, starts = STATES_2001
+        for wrong in NO_NUMBERS + [1]:
+            with self.assertRaises(NoThread):
+                share_schedule(program, starts, wrong)
+            with self.assertRaises(NoThread):
+                stand_schedule(program, starts, wrong, 0, 0, ())
+        with self.assertRaises(NoPlace):
+            stand_schedule(program, starts, 0, 0, 0, (0,))
+        with self.assertRaises(NoNumber):
+            may_go(program, starts, True)
+        with self.assertRaises(NoPrices):
+            cheapest(program, starts, {}, 0)
+        with self.assertRaises(NoNumber):
+            cheapest(program, starts, {(0, 7): 0}, None)
+
+    def test_other_calls_do_not_look_at_all_states(self):
+        for program, starts in (STATES_2001, (HUGE, HUGE_STARTS)):
+            state = first_state(program, starts)
+            self.assertEqual(waits_for(program, starts, state), [])
+            with self.assertRaises(NoState):
+                chain(program, starts, state)
+            Machine(program, starts).step(0, 0)
+
+
+class MachineErrorsTest(unittest.TestCase):
+    def test_the_thread_comes_before_the_bit_and_the_bit_before_the_move(self):
+        machine = Machine(PAIR, (0, 1))
+        for thread in NO_NUMBERS + [2]:
+            for bit in NO_NUMBERS + [0, 1, 2]:
+                with self.assertRaises(NoThread):
+                    machine.step(thread, bit)
+        for bit in NO_NUMBERS + [2]:
+            with self.assertRaises(NoNumber):
+                machine.step(1, bit)
+        with self.assertRaises(NoMove):
+            machine.step(1, 1)
+        self.assertEqual(machine.schedule(), [])
