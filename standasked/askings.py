@@ -8,7 +8,7 @@ from standasked.values import is_number
 MOST_PRICED = 6
 
 
-def keeps(told, limit):
+def is_limit_kept(told, limit):
     """Whether a limit is kept where judge returns what is told."""
     return told[0] == "none" or told[0] == "late" and told[1] <= limit
 
@@ -33,13 +33,13 @@ def may_go(program, starts, limit):
     found = []
     for one in known:
         others = [other for other in known if other != one]
-        if keeps(judge(without(program, others), starts), limit):
+        if is_limit_kept(judge(without(program, others), starts), limit):
             found.append(one)
     return found
 
 
-def price_of(kept, prices):
-    return sum([prices[one] for one in kept])
+def price_of(chosen, prices):
+    return sum([prices[one] for one in chosen])
 
 
 def priced_lists(known, prices):
@@ -47,20 +47,25 @@ def priced_lists(known, prices):
     lists = [[]]
     for one in known:
         lists = lists + [before + [one] for before in lists]
-    return sorted([(price_of(kept, prices), len(kept), kept) for kept in lists])
+    return sorted([(price_of(chosen, prices), len(chosen), chosen) for chosen in lists])
 
 
-def cheapest(program, starts, prices, limit):
-    known = askings(program)
+def cheapest_choice(known, changed, program, starts, prices, limit):
+    """The first list of known places with which the program, changed by it, keeps
+    the limit, as (price, list, bars)."""
     check_starts(program, starts)
     check_prices(prices, known)
     check_limit(limit)
     if len(known) > MOST_PRICED:
-        raise TooMany("there are more than 6 askings")
+        raise TooMany("there are more than 6 places with a price")
     bars = []
-    for price, _, kept in priced_lists(known, prices):
-        told = judge(without(program, kept), starts)
-        if keeps(told, limit):
-            return price, kept, bars
-        bars.append((kept, told))
+    for price, _, chosen in priced_lists(known, prices):
+        told = judge(changed(program, chosen), starts)
+        if is_limit_kept(told, limit):
+            return price, chosen, bars
+        bars.append((chosen, told))
     return None, None, bars
+
+
+def cheapest(program, starts, prices, limit):
+    return cheapest_choice(askings(program), without, program, starts, prices, limit)

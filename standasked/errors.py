@@ -18,7 +18,7 @@ class NoState(StandError):
 
 
 class NoKept(StandError):
-    """A value is no list of different askings."""
+    """A value is no list of different askings or takes, or an asking that is none to keep or leave."""
 
 
 class NoPrices(StandError):

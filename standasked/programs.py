@@ -112,11 +112,11 @@ def places_of(program, word):
     ]
 
 
-def replaced(program, places, instruction):
-    """The program with this instruction at each of the (function, place)."""
+def replaced(program, instructions):
+    """The program with other instructions: those of a dict from (function, place)."""
     locks, flags, functions = program
     changed = [list(function) for function in functions]
-    for at, place in places:
+    for (at, place), instruction in instructions.items():
         changed[at][place] = instruction
     return locks, flags, tuple([tuple(function) for function in changed])
 
@@ -145,4 +145,4 @@ def without(program, kept):
     known = askings(program)
     if not is_choice(kept, known):
         raise NoKept("kept is a list of different askings")
-    return replaced(program, [one for one in known if one not in kept], ("work", 1))
+    return replaced(program, {one: ("work", 1) for one in known if one not in kept})

@@ -1,5 +1,6 @@
 """Whether all stops hold and end, how late they hold, and how long they last."""
 
+from standasked.graphs import afters_first, greatest_sums, parts_of, way_between
 from standasked.programs import check_program, check_starts, check_thread
 from standasked.states import explored, is_plain, is_standing, steps_from, stop_holds, way_to
 from standasked.values import is_integer
@@ -45,53 +46,6 @@ def requests_at(runs, at):
     return [(at, move, after) for move, _, after in runs.steps[at] if is_asked(runs.states[after])]
 
 
-def afters_first(graph):
-    """All numbers, each behind all that its steps lead to, but for rings."""
-    order = []
-    met = [False] * len(graph)
-    for root in range(len(graph)):
-        # What is to be done yet: a number, and how many of its steps are done.
-        todo = [] if met[root] else [(root, 0)]
-        met[root] = True
-        while todo:
-            at, many = todo.pop()
-            if many == len(graph[at]):
-                order.append(at)
-                continue
-            todo.append((at, many + 1))
-            after = graph[at][many][2]
-            if not met[after]:
-                met[after] = True
-                todo.append((after, 0))
-    return order
-
-
-def reversed_graph(graph):
-    """For each number the list of those that have a step to it."""
-    befores = [[] for _ in graph]
-    for at, found in enumerate(graph):
-        for step in found:
-            befores[step[2]].append(at)
-    return befores
-
-
-def parts_of(graph, order):
-    """For each number one of those that it leads to and that lead to it, for
-    all of these the same one."""
-    befores = reversed_graph(graph)
-    parts = [None] * len(graph)
-    # The last number in the order is led to by none that it does not lead to,
-    # so going back from it meets just its own part; so then for what is left.
-    for root in reversed(order):
-        todo = [root] if parts[root] is None else []
-        while todo:
-            at = todo.pop()
-            if parts[at] is None:
-                parts[at] = root
-                todo.extend(befores[at])
-    return parts
-
-
 def first_stuck(stops):
     """The number of a stuck state with the fewest moves to it, or None."""
     for at, state in enumerate(stops.runs.states):
@@ -107,38 +61,6 @@ def first_in_ring(stops):
         if any([parts[step[2]] == parts[at] for step in found]):
             return at
     return None
-
-
-def ring_at(graph, root):
-    """A list of moves, as short as any, from a number with a ring back to it."""
-    ways = {}
-    reached = [root]
-    many = 0
-    while root not in ways:
-        at = reached[many]
-        many += 1
-        for move, _, after in graph[at]:
-            if after not in ways:
-                ways[after] = (at, move)
-                reached.append(after)
-    at, move = ways[root]
-    moves = [move]
-    while at != root:
-        at, move = ways[at]
-        moves.append(move)
-    return moves[::-1]
-
-
-def greatest_sums(graph, order):
-    """For each number the greatest sum of weights from there on, and the step
-    that it begins with, None where no step adds to it."""
-    sums = [(0, None)] * len(graph)
-    for at in order:
-        for step in graph[at]:
-            total = step[1] + sums[step[2]][0]
-            if total > sums[at][0]:
-                sums[at] = (total, step)
-    return sums
 
 
 def rest_sums(stops):
@@ -192,7 +114,7 @@ def judge(program, starts):
         return "stuck", way_to(stops.runs, stuck)
     ring = first_in_ring(stops)
     if ring is not None:
-        return "ring", way_to(stops.runs, ring), ring_at(stops.counted, ring)
+        return "ring", way_to(stops.runs, ring), way_between(stops.counted, ring, ring)
     late = rest_sums(stops)
     whole = whole_sums(stops)
     return (

@@ -160,3 +160,53 @@ def lock_runs(many):
                                    + [("free", lock) for lock in locks]))
         runs.append(((3, 0, tuple(functions)), (0,) + source.choice([(1, 2), (1, 3), (1, 2, 3)])))
     return runs
+
+
+def looping_runs(many):
+    """Programs in which threads go back to their stops, the same ones at each call."""
+    source = random.Random(17)
+    runs = []
+    for _ in range(many):
+        functions = []
+        for at in range(3):
+            function = calm_function(source, at)
+            back = (source.choice(["jump", "branch", "work"]), source.randint(1, len(function)))
+            functions.append(function + (back,))
+        program = (2, 1, tuple(functions))
+        assert is_program(program)
+        runs.append((program, tuple([source.randint(0, 2) for _ in range(source.randint(1, 3))])))
+    return runs
+
+
+def ordered_runs(many):
+    """Programs in which a thread waits for a flag that another one raises behind its
+    stop, the same ones at each call."""
+    source = random.Random(23)
+    pieces = [(), (), (("work", 4),), (("branch", None),), (("ask",),), (("leave",),), (("lower", 0),), (("call", 2),)]
+    runs = []
+    for _ in range(many):
+        functions = [
+            (("stop",), ("go",)) + source.choice(pieces) + (("raise", 0),) + source.choice(pieces),
+            (("if", 0, 3), ("ask",), ("jump", 0)) + source.choice(pieces) + (("stop",), ("go",))
+            + source.choice(pieces),
+            source.choice([(("work", 7),), (("work", 2), ("stop",), ("go",))]),
+        ]
+        for at, function in enumerate(functions):
+            functions[at] = tuple([one if one[-1] is not None else ("branch", source.randint(0, len(function)))
+                                   for one in function])
+        program = (0, 1, tuple(functions))
+        assert is_program(program)
+        runs.append((program, (0, 1) + source.choice([(), (), (1,), (2,)])))
+    return runs
+
+
+def with_takes(program):
+    """The program with a "take" of a lock of its own instead of each "ask"."""
+    locks, flags, functions = program
+    return (locks + 1, flags, tuple([
+        tuple([("take", locks) if one == ("ask",) else one for one in function]) for function in functions]))
+
+
+# The states of these with their "take" made safe are as many as with the "ask".
+TAKES_2000 = (with_takes(UP_TO_2000[0]), UP_TO_2000[1])
+TAKES_2008 = (with_takes(UP_TO_2008[0]), UP_TO_2008[1])

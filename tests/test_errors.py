@@ -8,12 +8,16 @@ from standasked.askings import cheapest, may_go
 from standasked.errors import (NoKept, NoMove, NoNumber, NoPlace, NoPrices, NoProgram, NoStarts,
                                NoState, NoThread, StandError, TooMany)
 from standasked.machines import Machine
+from standasked.plans import Plan
 from standasked.programs import askings, without
+from standasked.rounds import gap_schedule, gaps, most_stops, overtaken
+from standasked.safes import cheapest_safe, safe, takes
 from standasked.standing import chain, stand_schedule, standing, waits_for
 from standasked.states import all_states, are_all_states, first_state, steps
 from standasked.stops import judge, lates, rests, share_schedule, shares, shows_rests
-from tests.samples import (NO_NUMBERS, NO_PROGRAMS, PAIR, STATES_2000, STATES_2001, UP_TO_2000,
-                           functions_of, works)
+from standasked.texts import written
+from tests.samples import (NO_NUMBERS, NO_PROGRAMS, PAIR, STATES_2000, STATES_2001, TAKES_2008, UP_TO_2000,
+                           functions_of, with_takes, works)
 
 NAMES = ["NoProgram", "NoStarts", "NoState", "NoKept", "NoPrices", "NoNumber",
          "NoThread", "NoPlace", "NoMove", "TooMany"]
@@ -97,6 +101,11 @@ STANDING_PLACES = (NoPlace, (1, 1, ()), [
     (True, 1, ()), (None, 1, ()), (2, 1, ()), (-1, 0, ()), (1, True, ()), (1, 3, ()), (1, -1, ()),
     (1, "1", ()), (1, 1, []), (1, 1, None), (1, 1, (0,)), (1, 1, (False,)), (1, 1, "0"), (1, None, None)])
 
+# The program with a "take" at (1, 1), where PAIR has its "ask".
+TAKING = (NoProgram, with_takes(PAIR), NO_PROGRAMS)
+CHOSEN = (NoKept, [(1, 1)], [one for one in NO_NUMBERS if one != []] + [
+    [(1, 0)], [(1, 1), (1, 1)], [(True, 1)], [(1, True)], [[1, 1]], ((1, 1),), {(1, 1): 1}, [None], [(1, 2)]])
+
 # For each function its arguments: the error, a good value, and wrong ones.
 ARGUMENTS = [
     (judge, [PROGRAMS, STARTS]), (rests, [PROGRAMS, STARTS]), (lates, [PROGRAMS, STARTS]),
@@ -105,7 +114,10 @@ ARGUMENTS = [
     (cheapest, [PROGRAMS, STARTS, PRICES, LIMITS]), (standing, [PROGRAMS, STARTS]),
     (stand_schedule, [PROGRAMS, STARTS, THREADS, STANDING_PLACES]),
     (waits_for, [PROGRAMS, STARTS, STATES]), (chain, [PROGRAMS, STARTS, STATES]),
-    (Machine, [PROGRAMS, STARTS]),
+    (Machine, [PROGRAMS, STARTS]), (most_stops, [PROGRAMS, STARTS]), (overtaken, [PROGRAMS, STARTS]),
+    (gaps, [PROGRAMS, STARTS]), (gap_schedule, [PROGRAMS, STARTS, THREADS, THREADS]),
+    (takes, [TAKING]), (safe, [TAKING, CHOSEN]), (cheapest_safe, [TAKING, STARTS, PRICES, LIMITS]),
+    (written, [PROGRAMS]), (Plan, [PROGRAMS, STARTS]), (without, [PROGRAMS, CHOSEN]),
 ]
 
 
@@ -155,13 +167,22 @@ class ArgumentsTest(unittest.TestCase):
                     self.assert_raises_just(arguments[first][0], function, values)
 
 
+def plan_told(program, starts):
+    return Plan(program, starts).told()
+
+
+def plan_keeps(program, starts, limit):
+    return Plan(program, starts).keeps(limit)
+
+
 class TooManyTest(unittest.TestCase):
     """2000 states and one more, and TooMany behind all other errors."""
 
     def calls(self, program, starts):
         return [(judge, ()), (rests, ()), (lates, ()), (shares, ()), (shows_rests, (None,)),
                 (shows_rests, ({},)), (share_schedule, (0,)), (standing, ()),
-                (stand_schedule, (0, 0, 0, ()))]
+                (stand_schedule, (0, 0, 0, ())), (most_stops, ()), (overtaken, ()), (gaps, ()),
+                (gap_schedule, (0, 0)), (plan_told, ()), (plan_keeps, (0,))]
 
     def test_2000_states(self):
         for program, starts in (STATES_2000, UP_TO_2000):
@@ -190,6 +211,9 @@ class TooManyTest(unittest.TestCase):
                 share_schedule(program, starts, wrong)
             with self.assertRaises(NoThread):
                 stand_schedule(program, starts, wrong, 0, 0, ())
+            for one, other in ((wrong, 0), (0, wrong), (wrong, wrong)):
+                with self.assertRaises(NoThread):
+                    gap_schedule(program, starts, one, other)
         with self.assertRaises(NoPlace):
             stand_schedule(program, starts, 0, 0, 0, (0,))
         with self.assertRaises(NoNumber):
@@ -198,6 +222,12 @@ class TooManyTest(unittest.TestCase):
             cheapest(program, starts, {}, 0)
         with self.assertRaises(NoNumber):
             cheapest(program, starts, {(0, 7): 0}, None)
+        with self.assertRaises(NoNumber):
+            Plan(program, starts).spare(None)
+        with self.assertRaises(NoPrices):
+            cheapest_safe(*TAKES_2008, {(1, 4): True}, 0)
+        with self.assertRaises(NoNumber):
+            cheapest_safe(*TAKES_2008, {(1, 4): 0}, True)
 
     def test_other_calls_do_not_look_at_all_states(self):
         for program, starts in (STATES_2001, (HUGE, HUGE_STARTS)):
@@ -206,6 +236,10 @@ class TooManyTest(unittest.TestCase):
             with self.assertRaises(NoState):
                 chain(program, starts, state)
             Machine(program, starts).step(0, 0)
+            self.assertEqual(takes(program), [])
+            self.assertEqual(safe(program, []), program)
+            written(program)
+            self.assertEqual(Plan(program, starts).kept(), askings(program))
 
 
 class MachineErrorsTest(unittest.TestCase):

@@ -7,9 +7,10 @@ import pathlib
 import unittest
 
 import standasked
-from standasked import askings, errors, machines, programs, standing, states, stops
+from standasked import (askings, errors, machines, plans, programs, rounds, safes, standing, states, stops,
+                        texts)
 from standasked.programs import is_program
-from tests.samples import ALL_WORDS, EXAMPLES, PAIR
+from tests.samples import ALL_WORDS, EXAMPLES, PAIR, with_takes
 
 # The modules outside of the package that it may import from.
 LIBRARY = ("heapq", "math", "itertools", "collections")
@@ -28,10 +29,19 @@ SIGNATURES = {
     standing: {"standing": ["program", "starts"],
                "stand_schedule": ["program", "starts", "thread", "function", "place", "locks"],
                "waits_for": ["program", "starts", "state"], "chain": ["program", "starts", "state"]},
+    rounds: {"most_stops": ["program", "starts"], "overtaken": ["program", "starts"],
+             "gaps": ["program", "starts"], "gap_schedule": ["program", "starts", "one", "other"]},
+    safes: {"takes": ["program"], "safe": ["program", "chosen"],
+            "cheapest_safe": ["program", "starts", "prices", "limit"]},
+    texts: {"written": ["program"], "read": ["text"]},
 }
 
-METHODS = {"step": ["thread", "bit"], "back": ["number"], "stands": ["thread"], "asker": [],
-           "lateness": [], "pause": [], "state": [], "schedule": [], "stops": [], "mark": []}
+METHODS = {
+    machines.Machine: {"step": ["thread", "bit"], "back": ["number"], "stands": ["thread"], "asker": [],
+                       "lateness": [], "pause": [], "state": [], "schedule": [], "stops": [], "mark": []},
+    plans.Plan: {"keep": ["asking"], "leave": ["asking"], "undo": [], "kept": [], "as_program": [],
+                 "told": [], "keeps": ["limit"], "spare": ["limit"], "deeds": []},
+}
 
 
 class NamesTest(unittest.TestCase):
@@ -51,14 +61,18 @@ class NamesTest(unittest.TestCase):
 
     def test_methods_with_their_arguments(self):
         self.assertEqual(machines.Machine.__module__, "standasked.machines")
-        self.assert_arguments(machines.Machine, ["program", "starts"])
-        for name, arguments in METHODS.items():
-            self.assert_arguments(machines.Machine.__dict__[name], ["self"] + arguments)
+        self.assertEqual(plans.Plan.__module__, "standasked.plans")
+        for one, methods in METHODS.items():
+            self.assert_arguments(one, ["program", "starts"])
+            for name, arguments in methods.items():
+                # In the class itself, not in a base class.
+                self.assert_arguments(one.__dict__[name], ["self"] + arguments)
 
     def test_errors_are_defined_in_their_file(self):
         for name, thing in vars(errors).items():
             if isinstance(thing, type):
                 self.assertEqual(thing.__module__, "standasked.errors", name)
+        self.assertEqual(texts.NoText.__module__, "standasked.texts")
 
 
 class ExamplesTest(unittest.TestCase):
@@ -141,10 +155,40 @@ def calls():
         found += [(standing.waits_for, (program, starts, states.first_state(program, starts)))]
         found += [(standing.stand_schedule, (program, starts) + one)
                   for one in standing.standing(program, starts) + [(0, 0, 0, ())]]
+        found += [(function, (program, starts)) for function in (
+            rounds.most_stops, rounds.overtaken, rounds.gaps)]
+        found += [(rounds.gap_schedule, (program, starts, one, other))
+                  for one in range(len(starts)) for other in range(len(starts))]
+        found += later_calls(program, starts)
+    found += later_calls(with_takes(PAIR), (0, 1)) + [(rounds.gap_schedule, (PAIR, (0, 0), 0, 1))]
     stuck = ((((0, 2),), ((1, 0),)), (0, 0), (0,), (), 0)
     found += [(function, EXAMPLES[1] + (stuck,)) for function in (standing.waits_for, standing.chain)]
     done = (((), ()), (0, 0), (), (), 0)
     return found + [(standing.chain, (PAIR, (0, 1), done))]
+
+
+def later_calls(program, starts):
+    """Functions of safes, texts and plans with arguments."""
+    known = safes.takes(program)
+    text = texts.written(program)
+    found = [(safes.takes, (program,)), (texts.written, (program,)), (texts.read, (text,))]
+    found += [(safes.safe, (program, chosen)) for chosen in ([], known, known[::-1])]
+    found += [(safes.cheapest_safe, (program, starts, {one: 1 for one in known}, limit)) for limit in (0, 150)]
+    return found + [(function, (program, starts)) for function in (plan_lists, plan_told)]
+
+
+def plan_lists(program, starts):
+    """The lists that a plan returns, in one answer."""
+    plan = plans.Plan(program, starts)
+    for one in plan.kept():
+        plan.leave(one)
+    for _, one in plan.deeds()[:1]:
+        plan.keep(one)
+    return plan.kept(), plan.deeds(), plan.spare(150)
+
+
+def plan_told(program, starts):
+    return plans.Plan(program, starts).told()
 
 
 class CallsTest(unittest.TestCase):
@@ -152,7 +196,7 @@ class CallsTest(unittest.TestCase):
 
     def test_each_function_is_called(self):
         wanted = [function for functions in SIGNATURES.values() for function in functions]
-        self.assertEqual({function.__name__ for function, _ in calls()}, set(wanted))
+        self.assertEqual({function.__name__ for function, _ in calls()}, set(wanted) | {"plan_lists", "plan_told"})
 
     def test_equal_calls(self):
         for function, arguments in calls():
@@ -186,6 +230,11 @@ class CallsTest(unittest.TestCase):
         with self.assertRaises(errors.NoPrices):
             askings.cheapest(PAIR, (0, 1), prices, 3)
         self.assertEqual(prices, {(1, 1): 1, (1, 2): 3})
+        with self.assertRaises(errors.NoPrices):
+            safes.cheapest_safe(PAIR, (0, 1), prices, 3)
+        with self.assertRaises(errors.NoKept):
+            safes.safe(PAIR, kept)
+        self.assertEqual((kept, prices), ([(1, 1), (1, 1)], {(1, 1): 1, (1, 2): 3}))
 
 
 class FilesTest(unittest.TestCase):

@@ -6,11 +6,16 @@ import random
 import unittest
 
 from standasked.errors import TooMany
+from standasked.plans import Plan
 from standasked.programs import askings, without
+from standasked.rounds import gaps, most_stops, overtaken
+from standasked.safes import safe, takes
 from standasked.standing import chain, standing
 from standasked.states import all_states, steps
 from standasked.stops import judge, lates, rests, shares
-from tests.samples import EXAMPLES, calm_runs, functions_of, generated_runs, lock_runs, mixed_runs
+from standasked.texts import read, written
+from tests.samples import (EXAMPLES, calm_runs, functions_of, generated_runs, lock_runs, looping_runs,
+                           mixed_runs, ordered_runs)
 from tests.trying import counting_steps, has_ring, is_holding, is_stuck
 
 
@@ -289,3 +294,114 @@ class LoopsTest(unittest.TestCase):
             program = functions_of((("stop",), ("go",)), (("call", 2), ("jump", 0)), (word,))
             self.assertEqual(pending_ring(program, (0, 1)), word == ("work", 1))
             self.assertEqual(is_passed_by_loops(program), word == ("ask",))
+
+
+@functools.cache
+def more_runs():
+    """(program, starts, states) of programs with several stops, with locks, and with rounds."""
+    found = small_runs()[::2]
+    for program, starts in looping_runs(60) + lock_runs(20) + ordered_runs(20):
+        try:
+            found.append((program, starts, all_states(program, starts)))
+        except TooMany:
+            continue
+    return found
+
+
+class TextsTest(unittest.TestCase):
+    def test_what_is_written_is_read(self):
+        for program, _, _ in more_runs():
+            self.assertEqual(read(written(program)), program)
+
+    def test_the_text_of_a_program_that_another_text_tells(self):
+        source = random.Random(4)
+        for program, _, _ in more_runs():
+            lines = []
+            for line in written(program).split("\n")[:-1]:
+                words = [source.choice(["", " ", "   ", "\n", "#\n"])]
+                for word in line.split():
+                    words += [word, " " * source.randint(1, 4)]
+                lines.append("".join(words) + source.choice(["", "# remark", "#", "\n # 1\n"]))
+            text = "\n".join(lines) + source.choice(["", "\n", "\n\n  "])
+            self.assertNotEqual(text, written(program))
+            self.assertEqual(written(read(text)), written(program))
+
+
+class RoundsTest(unittest.TestCase):
+    def test_nobody_is_overtaken_more_often_than_the_most_stops(self):
+        seen = []
+        for program, starts, _ in more_runs():
+            found = overtaken(program, starts)
+            told = most_stops(program, starts)
+            if told[0] == "most":
+                self.assertNotIn(None, found)
+                self.assertLessEqual(max(found), told[1])
+                seen.append("less" if max(found) < told[1] else "equal" if told[1] else "none")
+            else:
+                seen.append("endless" if None in found else "other")
+        for word in ("less", "none", "endless", "other"):
+            self.assertGreater(seen.count(word), 3, word)
+
+    def test_with_one_thread_nobody_is_overtaken(self):
+        for program, starts, _ in more_runs():
+            for start in sorted(set(starts)):
+                try:
+                    self.assertEqual(overtaken(program, (start,)), (0,))
+                except TooMany:
+                    pass
+
+    def test_gaps_need_stops_that_end(self):
+        seen = 0
+        for program, starts, _ in more_runs():
+            if gaps(program, starts):
+                self.assertNotEqual(most_stops(program, starts)[:2], ("most", 0))
+                seen += 1
+        self.assertGreater(seen, 30)
+
+
+class SafesTest(unittest.TestCase):
+    def test_with_all_takes_safe_no_pending_state_is_stuck(self):
+        seen = []
+        for program, starts, states in more_runs():
+            known = takes(program)
+            if not known:
+                continue
+            before = any([is_pending(program, state) and is_stuck(program, state) for state in states])
+            made = safe(program, known)
+            try:
+                found = all_states(made, starts)
+            except TooMany:
+                continue
+            for state in found:
+                self.assertFalse(is_pending(made, state) and is_stuck(made, state))
+            seen.append(before)
+        self.assertGreater(seen.count(True), 5)
+        self.assertGreater(seen.count(False), 20)
+
+
+class PlansTest(unittest.TestCase):
+    def test_told_is_the_answer_for_the_present_askings(self):
+        source = random.Random(6)
+        seen = 0
+        for program, starts, _ in more_runs():
+            known = askings(program)
+            if not known:
+                continue
+            plan = Plan(program, starts)
+            for _ in range(6):
+                one = source.choice(known)
+                if source.randint(0, 2) == 0 and plan.deeds():
+                    plan.undo()
+                elif one in plan.kept():
+                    plan.leave(one)
+                else:
+                    plan.keep(one)
+                try:
+                    told = judge(without(program, plan.kept()), starts)
+                except TooMany:
+                    with self.assertRaises(TooMany):
+                        plan.told()
+                    continue
+                self.assertEqual(plan.told(), told)
+                seen += told != judge(program, starts)
+        self.assertGreater(seen, 50)

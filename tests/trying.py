@@ -140,3 +140,83 @@ def all_sums(program, state, most=2000):
         if len(todo) + len(found) > most:
             raise TooLong
     return found
+
+
+def ends_stop(state, after):
+    return state[4] is not None and after[4] is None
+
+
+def greatest_ends(program, begins, thread=None, most=30000):
+    """The greatest number of stops that end in moves from one of the states on, none
+    of them a thread's, by trying all; None if there is no greatest number."""
+    nexts = {}
+    todo = list(begins)
+    while todo:
+        state = todo.pop()
+        if state not in nexts:
+            nexts[state] = [step for step in reference_steps(program, state) if step[0][0] != thread]
+            todo.extend([step[2] for step in nexts[state]])
+    steps = sum([ends_stop(state, step[2]) for state in nexts for step in nexts[state]])
+    met = {(state, 0) for state in begins}
+    todo = list(met)
+    while todo:
+        state, many = todo.pop()
+        if many > steps:
+            # One of the steps that end a stop was done twice.
+            return None
+        for _, _, after in nexts[state]:
+            one = (after, many + ends_stop(state, after))
+            if one not in met:
+                met.add(one)
+                todo.append(one)
+        if len(met) > most:
+            raise TooLong
+    return max([many for _, many in met], default=0)
+
+
+def is_before_stop(program, state, thread):
+    """Whether a thread is inside and has a "stop" before it."""
+    if not state[0][thread] or state[1][thread]:
+        return False
+    function, place = state[0][thread][-1]
+    return program[2][function][place:place + 1] == (("stop",),)
+
+
+def all_gaps(program, starts):
+    """The least gap of each pair, by going over all states again and again."""
+    states = distances_of(program, first_of(program, starts))
+    found = {}
+    for one in range(len(starts)):
+        sums = {after: 0 for state in states for move, _, after in reference_steps(program, state)
+                if ends_stop(state, after) and move[0] == one}
+        changed = True
+        while changed:
+            changed = False
+            for state, total in list(sums.items()):
+                for _, weight, after in reference_steps(program, state):
+                    if after[4] is None and total + weight < sums.get(after, total + weight + 1):
+                        sums[after] = total + weight
+                        changed = True
+        for state, total in sums.items():
+            for move, _, after in reference_steps(program, state):
+                if after[4] is not None:
+                    pair = (one, move[0])
+                    found[pair] = min(total, found.get(pair, total))
+    return found
+
+
+def gap_of(program, starts, schedule):
+    """(pair, gap) of a schedule that has a gap, told move by move."""
+    state = first_of(program, starts)
+    one, total = None, None
+    for at, move in enumerate(schedule):
+        weight, after = moved(program, state, *move)
+        if at == len(schedule) - 1:
+            assert state[4] is None and after[4] == move[0]
+            return (one, move[0]), total
+        if ends_stop(state, after):
+            one, total = move[0], 0
+        elif one is not None:
+            total += weight
+        state = after
+    raise AssertionError("a schedule without moves has no gap")
